@@ -1,5 +1,7 @@
 """How those who come to the narrow wait there, go through it, and pass what lies behind it."""
 
+from marathonday.race import with_part
+
 
 def all_come_by(waves):
     """Behind how many minutes all have come (0 without waves)."""
@@ -19,6 +21,11 @@ def coming(waves, minutes):
 def coming_in_all(waves):
     """How many come in each minute, up to the last one in which some do."""
     return coming(waves, all_come_by(waves))
+
+
+def starting_in_all(waves):
+    """How many start, in all waves."""
+    return sum([wave.length * wave.many for wave in waves])
 
 
 def gathered(come, wide):
@@ -72,7 +79,12 @@ def waited_behind(wait, wide):
 
 def total_wait(come, wide):
     """For how many minutes all wait together; come reaches up to the last minute in which some come."""
-    return sum(waiting(come, wide)) + waited_behind(left_waiting(come, wide), wide)
+    waited = 0
+    wait = 0
+    for many in come:
+        wait = max(0, wait + many - wide)
+        waited += wait
+    return waited + waited_behind(wait, wide)
 
 
 def clear_by(come, wide):
@@ -94,9 +106,22 @@ def least_wide(come, most):
     return low
 
 
+def best_start(waves, i, last, wide):
+    """The first start of wave i, up to the last one asked, by which all wait least; then for how long."""
+    totals = []
+    for start in range(last + 1):
+        totals.append(total_wait(coming_in_all(with_part(waves, i, waves[i].starting(start))), wide))
+    return [totals.index(min(totals)), min(totals)]
+
+
+def day_going_by(race, wide):
+    """How many go through in each minute of the day, if the narrow is so wide."""
+    return going(coming(race.waves, race.minutes), wide)
+
+
 def day_going(race):
     """How many go through the narrow in each minute of the day."""
-    return going(coming(race.waves, race.minutes), race.wide)
+    return day_going_by(race, race.wide)
 
 
 def passing(goes, away):

@@ -1,15 +1,22 @@
 """A list of calls on one new marathon, and the list of their answers."""
 
+from marathonday.crossings import CROSSING_CALLS
+from marathonday.history import Line, begin_with, do_again, note_change, take_back
+from marathonday.looks import LOOK_CALLS
 from marathonday.narrow import NARROW_CALLS
 from marathonday.race import Race
 from marathonday.refusal import NOT_AS_TOLD, NOT_BEGUN
 from marathonday.roads import ROAD_CALLS, is_gap
 from marathonday.start import START_CALLS, is_wide
+from marathonday.supply import SUPPLY_CALLS
 from marathonday.tables import TABLE_CALLS
+from marathonday.trips import TRIP_CALLS
 from marathonday.way import WAY_CALLS
 
 BEGIN = 0
 IN_TURN = 26
+BACK = 61
+AGAIN = 62
 LONGEST_DAY = 120
 
 # How many whole numbers each call has, by its number; a row is not among them.
@@ -21,17 +28,10 @@ SIZES = (
 )
 
 
-class Line:
-    """What the calls of one list are about: no race till a begin is answered 0."""
-
-    def __init__(self):
-        self.race = None
-
-
 def begin(line, minutes, wide, gap):
     if not 1 <= minutes <= LONGEST_DAY or not is_wide(wide) or not is_gap(gap):
         return [NOT_AS_TOLD]
-    line.race = Race(minutes, wide, gap)
+    begin_with(line, Race(minutes, wide, gap))
     return [0]
 
 
@@ -43,11 +43,17 @@ def find_doer(number):
         return NARROW_CALLS[number]
     if number in TABLE_CALLS:
         return TABLE_CALLS[number]
+    if number in SUPPLY_CALLS:
+        return SUPPLY_CALLS[number]
     if number in ROAD_CALLS:
         return ROAD_CALLS[number]
+    if number in CROSSING_CALLS:
+        return CROSSING_CALLS[number]
+    if number in TRIP_CALLS:
+        return TRIP_CALLS[number]
     if number in WAY_CALLS:
         return WAY_CALLS[number]
-    raise NotImplementedError(f"no call {number} yet")
+    return LOOK_CALLS[number]
 
 
 def do_call(doer, race, given):
@@ -69,7 +75,14 @@ def answer(line, number, given):
         return begin(line, given[0], given[1], given[2])
     if line.race is None:
         return [NOT_BEGUN]
-    return do_call(find_doer(number), line.race, given)
+    if number == BACK:
+        return take_back(line)
+    if number == AGAIN:
+        return do_again(line)
+    before = line.race.copied()
+    numbers = do_call(find_doer(number), line.race, given)
+    note_change(line, before)
+    return numbers
 
 
 def split_calls(calls):

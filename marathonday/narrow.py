@@ -1,8 +1,9 @@
 """The calls that ask who comes to the narrow, waits there and goes through, and what would be better."""
 
-from marathonday.flow import clear_by, coming, coming_in_all, gathered, going
+from marathonday.flow import best_start, clear_by, coming, coming_in_all, gathered, going
 from marathonday.flow import held_minutes, least_wide, most_held, total_wait, waiting
-from marathonday.refusal import IN_NO_WAY, NONE_THERE, NOT_AS_TOLD
+from marathonday.refusal import IN_NO_WAY, NO_SUCH, NONE_THERE, NOT_AS_TOLD
+from marathonday.start import LAST_START
 from marathonday.turns import by_way, crowded, in_turn
 
 LAST_MINUTE = 600
@@ -79,6 +80,14 @@ def tell_plan(race):
     return told[:1] + order + told[1:]
 
 
+def tell_best_start(race, i, last):
+    if i >= len(race.waves):
+        return [NO_SUCH]
+    if last > LAST_START:
+        return [NOT_AS_TOLD]
+    return best_start(race.waves, i, last, race.wide)
+
+
 NARROW_CALLS = {
     17: tell_comes,
     18: tell_waits,
@@ -91,4 +100,5 @@ NARROW_CALLS = {
     25: tell_least_wide,
     26: tell_in_turn,
     27: tell_plan,
+    54: tell_best_start,
 }

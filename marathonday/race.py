@@ -25,6 +25,10 @@ class Wave:
         """The minute in which its first ones come to the narrow."""
         return self.start + self.way
 
+    def told(self):
+        """All that was told of it, as plain numbers."""
+        return (self.start, self.length, self.many, self.way)
+
 
 class Table:
     """A table with cups; its deliveries are pairs of a minute and so many cups, as they were told."""
@@ -43,6 +47,13 @@ class Table:
         """The same table, but with these deliveries."""
         return Table(self.away, self.takes, self.stock, deliveries)
 
+    def told(self):
+        """All that was told of it, as plain numbers; of each delivery its minute, then how many."""
+        numbers = (self.stock, self.away, self.takes)
+        for delivery in self.deliveries:
+            numbers = numbers + delivery
+        return numbers
+
 
 class Road:
     """A road between two places; its crossing is told by its number and 1, or 0 for none."""
@@ -52,6 +63,10 @@ class Road:
         self.other_end = other_end
         self.long = long
         self.crossing = crossing
+
+    def told(self):
+        """All that was told of it, as plain numbers."""
+        return (self.long, self.one_end, self.other_end, self.crossing)
 
 
 class Race:
@@ -67,6 +82,24 @@ class Race:
         self.crossings = ()
         self.places = 0
         self.roads = ()
+
+    def copied(self):
+        """Another race that is just as this one is now."""
+        other = Race(self.minutes, self.wide, self.gap)
+        other.home = self.home
+        other.waves = self.waves
+        other.tables = self.tables
+        other.crossings = self.crossings
+        other.places = self.places
+        other.roads = self.roads
+        return other
+
+    def told(self):
+        """All that can be otherwise behind a call, as plain numbers: alike if two races are."""
+        waves = [wave.told() for wave in self.waves]
+        tables = [table.told() for table in self.tables]
+        roads = [road.told() for road in self.roads]
+        return (self.minutes, self.wide, self.gap, self.home, waves, tables, self.crossings, self.places, roads)
 
 
 def with_part(parts, i, part):

@@ -1,6 +1,6 @@
 """The calls that tell the tables and their cups, and ask for them."""
 
-from marathonday.cups import carried, least, leasts, missing, sums_so_far, wanted
+from marathonday.cups import carried, least, leasts, missing, steps_over, sums_so_far, wanted
 from marathonday.flow import day_going
 from marathonday.race import FARTHEST, Table, with_part
 from marathonday.refusal import IN_NO_WAY, NO_ROOM, NO_SUCH, NONE_THERE, NOT_AS_TOLD
@@ -55,12 +55,11 @@ def set_stock(race, k, cups):
 
 def level_tables(race):
     needs = leasts(race.tables, day_going(race))
-    over = carried(race.tables, needs)
-    # What is over behind the last table is over in all; there may be no table.
-    if sum(over[-1:]) != 0:
+    gaps = carried(race.tables, needs)
+    if gaps is None:
         return [IN_NO_WAY]
     race.tables = tuple([table.stocked(need) for table, need in zip(race.tables, needs)])
-    return [sum([abs(cups) for cups in over])]
+    return [steps_over(gaps)]
 
 
 def tell_wants(race, k, minute):

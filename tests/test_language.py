@@ -35,6 +35,16 @@ WORDS = """
 
 NOWHERE = "register mro elements open input version_info with_traceback add_note format format_map".split()
 
+NOT_AS_NAMES = """
+    attrgetter breakpoint builtins compile copyright credits delattr dir eval exec exit gc getattr globals hasattr help
+    id importlib license locals methodcaller os quit setattr super type vars sys __name__ chr set frozenset
+""".split()
+
+KEYWORDS = {"sorted": ["key", "reverse"], "min": ["key", "default"], "max": ["key", "default"], "sum": ["start"],
+            "enumerate": ["start"], "zip": ["strict"]}
+
+CHANGING = "append clear extend insert pop remove reverse setdefault update".split()
+
 LAZY = "zip enumerate reversed range".split()
 WALKERS = "list tuple dict sorted sum any all enumerate zip min max".split()
 
@@ -212,6 +222,83 @@ class Walks(unittest.TestCase):
             for node in ast.walk(tree):
                 if isinstance(node, ast.Compare) and isinstance(node.ops[0], (ast.Is, ast.IsNot)):
                     self.assertIsInstance(node.comparators[0], ast.Constant, (path, node.lineno))
+
+    def test_what_a_loop_walks_is_not_changed_in_it(self):
+        for path, tree in trees():
+            for loop in ast.walk(tree):
+                if isinstance(loop, ast.For):
+                    walked = [node.id for node in ast.walk(loop.iter) if isinstance(node, ast.Name)]
+                    for node in [part for row in loop.body for part in ast.walk(row)]:
+                        self.assertNotIn(self.changed(node), walked, (path, loop.lineno))
+
+    def changed(self, node):
+        """The plain name of a list or dict that this changes, or nothing."""
+        if isinstance(node, ast.Call) and isinstance(node.func, ast.Attribute) and node.func.attr in CHANGING:
+            return getattr(node.func.value, "id", "")
+        if isinstance(node, ast.Subscript) and isinstance(node.ctx, ast.Store):
+            return getattr(node.value, "id", "")
+        return ""
+
+
+class Narrower(unittest.TestCase):
+    def test_no_two_files_draw_from_one_another(self):
+        drawn = {path.stem: [node.module.split(".")[1] for node in tree.body if isinstance(node, ast.ImportFrom)]
+                 for path, tree in trees()}
+        left = dict(drawn)
+        while left:
+            free = [name for name in left if not any(other in left for other in left[name])]
+            self.assertTrue(free, left)
+            left = {name: others for name, others in left.items() if name not in free}
+
+    def test_lists_and_dicts_of_a_files_top_are_only_read(self):
+        for path, tree in trees():
+            tops = [name.id for other, part in trees() for node in part.body
+                    if isinstance(node, ast.Assign) and isinstance(node.value, (ast.Dict, ast.List))
+                    for name in node.targets]
+            fine = [node.value for node in ast.walk(tree)
+                    if isinstance(node, ast.Subscript) and isinstance(node.ctx, ast.Load)]
+            fine += [node.comparators[0] for node in ast.walk(tree)
+                     if isinstance(node, ast.Compare) and isinstance(node.ops[0], ast.In)]
+            for node in ast.walk(tree):
+                if isinstance(node, ast.Name) and isinstance(node.ctx, ast.Load) and node.id in tops:
+                    self.assertIn(node, fine, (path, node.lineno))
+
+    def test_names_that_are_not_used(self):
+        for path, tree in trees():
+            for node in ast.walk(tree):
+                if isinstance(node, ast.Name):
+                    self.assertNotIn(node.id, NOT_AS_NAMES, (path, node.lineno))
+                if isinstance(node, ast.Attribute):
+                    self.assertNotIn(node.attr, NOWHERE, (path, node.lineno))
+
+    def test_keywords(self):
+        for path, tree in trees():
+            for node in ast.walk(tree):
+                if isinstance(node, ast.Call):
+                    for keyword in node.keywords:
+                        self.assertIn(keyword.arg, KEYWORDS.get(called(node), []), (path, node.lineno))
+
+    def test_texts_numbers_and_annotations(self):
+        for path, tree in trees():
+            for node in ast.walk(tree):
+                if isinstance(node, ast.Constant) and isinstance(node.value, str):
+                    self.assertNotIn("%", node.value, (path, node.lineno))
+                self.assertNotIsInstance(node, (ast.Pow, ast.Try, ast.AnnAssign), path)
+                if isinstance(node, ast.FunctionDef):
+                    self.assertIsNone(node.returns, (path, node.name))
+                if isinstance(node, ast.arg):
+                    self.assertIsNone(node.annotation, (path, node.arg))
+
+    def test_what_a_file_is_called(self):
+        for path in sources():
+            self.assertTrue(path.stem == "__init__" or not hasattr(builtins, path.stem), path)
+            self.assertNotIn(path.stem, WORDS + ["test", "tests", "testing", "site", "conftest"], path)
+
+    def test_init_gives_back_nothing(self):
+        for path, tree in trees():
+            for node in ast.walk(tree):
+                if isinstance(node, ast.FunctionDef) and node.name == "__init__":
+                    self.assertFalse([part for part in ast.walk(node) if isinstance(part, ast.Return)], path)
 
 
 if __name__ == "__main__":

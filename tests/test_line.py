@@ -3,7 +3,7 @@
 import unittest
 
 from marathonday.marathon import answers
-from tests.helper import GREATEST, NAMES, SIZES, asked, flat, last, probe, run
+from tests.helper import GREATEST, NAMES, SIZES, any_call, asked, flat, last, probe, run
 
 # An object on which each kind of thing is there.
 FULL = [
@@ -31,20 +31,28 @@ REFUSED = [
     ("least_wide", 101), ("in_turn", [0, 0]), ("in_turn", [1, 0]), ("plan",),
     ("passing", 101, 0), ("passing", 0, 60),
     ("wants", 2, 0), ("wants", 0, 60), ("there", 2, 0), ("there", 0, 60), ("least", 2),
+    ("short", 2), ("latest", 2, 1), ("latest", 0, 0), ("latest", 0, 100001), ("latest", 0, 1),
+    ("fewest", 2, 100), ("fewest", 0, 49), ("fewest", 0, 100001), ("fewest", 1, 9), ("steps",),
+    ("runs", 2, 0), ("runs", 0, 60), ("open", 2, 0), ("open", 0, 60), ("next", 2, 0), ("next", 0, 60),
+    ("shuts", 2), ("shut_longest", 2), ("held", 2, 1), ("held", 0, 0), ("held", 0, 121), ("least_most", 2, 0),
+    ("arrive", 2, 0, 0), ("arrive", 0, 2, 0), ("arrive", 0, 1, 60), ("all", 2, 0), ("all", 0, 60),
+    ("leave", 2, 0, 0), ("leave", 0, 2, 0), ("leave", 0, 1, 60), ("leave", 0, 1, 0), ("worst", 2, 0), ("worst", 0, 2),
+    ("home_by", 60), ("nth", 0), ("nth", 92), ("best_start", 2, 0), ("best_start", 0, 201),
+    ("cups_if", 0), ("cups_if", 1001), ("widest", 0), ("widest", 101), ("widest", 1),
+    ("look_wave", 2), ("look_table", 2), ("look_road", 1), ("again",),
 ]
 
 # Calls that answer something there and may not change anything.
 ASKS = [
     ("comes", 9), ("waits", 9), ("goes", 9), ("holds", 9), ("longest",), ("most",), ("total",), ("clear",),
     ("least_wide", 3), ("passing", 3, 12), ("wants", 0, 12), ("there", 0, 12), ("least", 0),
+    ("short", 0), ("enough",), ("apart",), ("together",), ("latest", 0, 1000), ("fewest", 0, 100),
+    ("runs", 0, 12), ("open", 0, 12), ("next", 0, 12), ("shuts", 0), ("shut_longest", 0), ("held", 0, 3),
+    ("least_most", 0, 1), ("marshals",), ("duties",),
+    ("arrive", 0, 1, 9), ("all", 0, 9), ("leave", 0, 1, 30), ("worst", 0, 1),
+    ("home_by", 50), ("nth", 9), ("best_start", 0, 30), ("cups_if", 7),
+    ("look_wave", 0), ("look_table", 0), ("look_road", 0), ("sums",), ("state",),
 ]
-
-
-def any_call(name, number):
-    """A call of this name, each of its numbers the same."""
-    if name == "in_turn":
-        return (name, [number] * 3)
-    return (name,) + (number,) * SIZES[name]
 
 
 class NotBegun(unittest.TestCase):
@@ -90,6 +98,18 @@ class Refusals(unittest.TestCase):
             self.assertGreaterEqual(told[0][0], 0, call)
             self.assertEqual(told[1:], expected, call)
 
+    def test_the_widest_and_the_steps_that_are_asked_change_nothing(self):
+        before = FULL + [("stock", 0, 100000), ("stock", 1, 91)]
+        before = before + [("stock", 0, last(*before, ("least", 0))[0])]
+        expected = asked(before, *probe())
+        for call in (("widest", 50), ("steps",)):
+            told = asked(before, call, *probe())
+            self.assertGreaterEqual(told[0][0], 0, call)
+            self.assertEqual(told[1:], expected, call)
+
+    def test_each_call_is_among_these(self):
+        self.assertEqual(set(NAMES) - {call[0] for call in FULL + REFUSED + ASKS}, {"back"})
+
     def test_orders_and_plans_that_are_asked_change_nothing(self):
         before = FULL + [("wide", 25)]
         expected = asked(before, *probe())
@@ -130,18 +150,25 @@ class Lists(unittest.TestCase):
         self.assertEqual(answers([0, 9, 5, 1, 1, 0, 1, 5, 0, 7, 0, 1, 2, 30, 0, 0]), [1, 0, 1, 0, 1, 0, 2, 0, -3])
 
     def test_the_list_is_as_it_was(self):
-        calls = flat(FULL + ASKS + [("in_turn", [1, 0])] + REFUSED)
-        kept = list(calls)
-        answers(calls)
-        self.assertEqual(calls, kept)
+        ways = [("wide", 25), ("in_turn", [1, 0]), ("set_plan",), ("level",), ("back",), ("again",), ("drop", 0)]
+        for more in (ASKS, REFUSED[:60], REFUSED[60:], ways, probe()):
+            calls = flat(FULL + more)
+            kept = list(calls)
+            answers(calls)
+            self.assertEqual(calls, kept)
 
     def test_two_times_one_behind_another_give_the_same(self):
-        calls = flat(FULL + probe())
-        first = answers(calls)
-        other = answers(flat([("begin", 120, 1, 1), ("wave", 0, 1, 1, 0), ("home", 9)]))
-        self.assertEqual(other, [1, 0, 1, 0, 1, 0])
-        self.assertEqual(answers(calls), first)
-        self.assertEqual(answers([24]), [1, -61])
+        for more in (ASKS, REFUSED[:60], REFUSED[60:], probe(), [("back",)] * 11 + [("again",)] * 11):
+            calls = flat(FULL + more)
+            first = answers(calls)
+            other = answers(flat([("begin", 120, 1, 1), ("wave", 0, 1, 1, 0), ("home", 9)]))
+            self.assertEqual(other, [1, 0, 1, 0, 1, 0])
+            self.assertEqual(answers(calls), first)
+            self.assertEqual(answers(flat([("clear",), ("back",), ("again",), ("state",)])), [1, -61] * 4)
+
+    def test_nothing_to_take_back_is_kept_from_the_time_before(self):
+        answers(flat(FULL + [("back",)]))
+        self.assertEqual(run(("begin", 9, 1, 1), ("back",), ("again",)), [[0], [-2], [-2]])
 
     def test_what_is_given_back_is_not_kept(self):
         calls = flat(FULL + [("wide", 25), ("plan",)])
@@ -156,7 +183,7 @@ class Lists(unittest.TestCase):
         self.assertEqual(told, [[0], [1]] + [[1 + i] for i in range(118)])
 
     def test_the_greatest_numbers_are_refused(self):
-        for name in NAMES[:32]:
+        for name in NAMES:
             call = any_call(name, GREATEST)
             if SIZES[name] != 0:
                 self.assertLess(last(*FULL, call)[0], 0, call)

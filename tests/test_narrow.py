@@ -244,6 +244,50 @@ class Plan(unittest.TestCase):
         self.assertEqual(last(*EMPTY, ("plan",)), [0])
 
 
+class BestStart(unittest.TestCase):
+    def test_the_best_and_how_long_all_wait_then(self):
+        # Behind the 16 who come in the minutes 7 and 8 is best: from minute 5 on nobody of them is in the way.
+        for n, expected in ((0, [0, 238]), (5, [5, 170]), (6, [5, 170]), (200, [5, 170])):
+            self.assertEqual(last(*TWO, ("best_start", 0, n)), expected, n)
+
+    def test_each_start_up_to_it(self):
+        totals = [asked(TWO, ("shift", 0, start), ("total",))[1][0] for start in range(12)]
+        self.assertEqual(totals[5:], [170] * 7)
+        for n in range(12):
+            best = min(totals[:n + 1])
+            self.assertEqual(last(*TWO, ("best_start", 0, n)), [totals.index(best), best], n)
+
+    def test_when_it_starts_now_is_not_asked_and_stays(self):
+        for start in (0, 5, 7, 200):
+            told = asked(TWO, ("shift", 0, start), ("best_start", 0, 200), ("look_wave", 0))
+            self.assertEqual(told[1:], [[5, 170], [start, 3, 25, 4]])
+
+    def test_all_others_start_as_they_do(self):
+        told = asked(TWO, ("shift", 1, 30), ("best_start", 0, 200), ("shift", 0, 30), ("best_start", 1, 200))
+        self.assertEqual(told[1::2], [[0, 170], [0, 170]])
+
+    def test_others_that_start_later_than_minute_200(self):
+        waves = EMPTY + [("wave", 0, 60, 10, 0)] * 5 + [("set_plan",)]
+        told = asked(waves, ("look_wave", 4), ("best_start", 0, 200), ("best_start", 4, 200), ("best_start", 4, 0))
+        self.assertEqual(told[:2], [[240, 60, 10, 0], [0, 0]])
+        self.assertEqual(told[2][0], 200)
+        self.assertEqual(told[2][1], asked(waves, ("shift", 4, 200), ("total",))[1][0])
+        self.assertEqual(told[3], [0, asked(waves, ("shift", 4, 0), ("total",))[1][0]])
+
+    def test_behind_the_day(self):
+        waves = [("begin", 1, 10, 2), ("wave", 0, 1, 500, 50), ("wave", 0, 1, 10, 0)]
+        self.assertEqual(last(*waves, ("shift", 1, 60), ("best_start", 1, 200)), [0, 500 * 50 - 10 * 50 * 51 // 2])
+        self.assertEqual(last(*waves, ("best_start", 0, 200)), [0, 500 * 50 - 10 * 50 * 51 // 2])
+
+    def test_each_edge(self):
+        told = asked(TWO, ("best_start", 0, 200), ("best_start", 0, 201), ("best_start", 1, 0), ("best_start", 2, 0))
+        self.assertEqual(told, [[5, 170], [-22], [0, 170], [-2]])
+
+    def test_which_refusal_goes_first(self):
+        self.assertEqual(last(*TWO, ("best_start", 2, 201)), [-2])
+        self.assertEqual(asked(EMPTY, ("best_start", 0, 0), ("best_start", 0, 201)), [[-2], [-2]])
+
+
 class ManyAsks(unittest.TestCase):
     def test_a_whole_line_of_the_longest_asks(self):
         waves = [("begin", 120, 1, 1)] + [("wave", 200, 60, 1000, 200)] * 8
